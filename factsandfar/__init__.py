@@ -1,0 +1,1 @@
+"""Factsandfar: certain answers over tables and an ontology."""
