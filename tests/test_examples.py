@@ -1,0 +1,127 @@
+"""The examples of the interface, as the document shows them: only the result of the last line is given."""
+
+import unittest
+
+EXAMPLES = """
+>>> from factsandfar.axioms import is_concept
+>>> is_concept(("out", "worksin"))
+True
+
+>>> from factsandfar.axioms import is_axiom
+>>> is_axiom(("functional", ("concept", "team")))
+False
+
+>>> from factsandfar.axioms import check_ontology
+>>> check_ontology([("subrole", "r", "s"), ("functional", ("out", "s"))])
+raises InvalidOntology
+
+>>> from factsandfar.axioms import inverse
+>>> inverse(("out", "worksin"))
+('in', 'worksin')
+
+>>> from factsandfar.axioms import concepts_of
+>>> concepts_of([("subclass", ("concept", "manager"), ("out", "leads"))])
+[('concept', 'manager'), ('in', 'leads'), ('out', 'leads')]
+
+>>> from factsandfar.subsumption import superconcepts
+>>> ontology = [("subclass", ("concept", "a"), ("concept", "b")), ("subclass", ("concept", "b"), ("out", "r"))]
+>>> superconcepts(ontology, ("concept", "a"))
+[('concept', 'a'), ('concept', 'b'), ('out', 'r')]
+
+>>> from factsandfar.subsumption import find_chain
+>>> ontology = [("subclass", ("concept", "a"), ("concept", "b")), ("subclass", ("concept", "b"), ("out", "r"))]
+>>> find_chain(ontology, ("concept", "a"), ("out", "r"))
+[0, 1]
+
+>>> from factsandfar.subsumption import is_chain
+>>> is_chain([("subrole", "r", "s")], ("in", "r"), ("in", "s"), [0], roles_only=True)
+True
+
+>>> from factsandfar.subsumption import chain_justifications
+>>> ontology = [("subrole", "r", "s"), ("subclass", ("out", "r"), ("out", "s"))]
+>>> chain_justifications(ontology, ("out", "r"), ("out", "s"))
+[(0,), (1,)]
+
+>>> from factsandfar.emptiness import find_emptiness_certificate
+>>> find_emptiness_certificate([("subclass", ("concept", "a"), ("concept", "b"))], ("concept", "a"))
+None
+
+>>> from factsandfar.emptiness import is_emptiness_certificate
+>>> ontology = [("disjoint", ("concept", "a"), ("concept", "b")), ("subclass", ("concept", "a"), ("concept", "b"))]
+>>> is_emptiness_certificate(ontology, ("concept", "a"), ("disjoint", 0, [], [1]))
+True
+
+>>> from factsandfar.facts import check_facts
+>>> check_facts([("concept", "a", ("p", "1")), ("concept", "a", ("p", "1"))])
+raises InvalidFacts
+
+>>> from factsandfar.derivations import derived_facts
+>>> ontology = [("subclass", ("concept", "manager"), ("concept", "employee")), ("subclass", ("concept", "employee"), ("out", "worksin"))]
+>>> facts = [("concept", "manager", ("emp", "ann"))]
+>>> derived_facts(ontology, facts)
+[('concept', 'employee', ('emp', 'ann')), ('concept', 'manager', ('emp', 'ann'))]
+
+>>> from factsandfar.derivations import find_derivation
+>>> ontology = [("subclass", ("concept", "manager"), ("concept", "employee")), ("subclass", ("concept", "employee"), ("out", "worksin"))]
+>>> facts = [("concept", "manager", ("emp", "ann"))]
+>>> find_derivation(ontology, facts, ("concept", "team", ("emp", "ann")))
+None
+
+>>> from factsandfar.derivations import is_derivation
+>>> ontology = [("subclass", ("concept", "manager"), ("concept", "employee")), ("subclass", ("concept", "employee"), ("out", "worksin"))]
+>>> facts = [("concept", "manager", ("emp", "ann"))]
+>>> given = (("concept", "manager", ("emp", "ann")), ("given",))
+>>> is_derivation(ontology, facts, [given, (("concept", "employee", ("emp", "ann")), ("axiom", 0, 0)), (("role", "worksin", ("emp", "ann"), 2), ("axiom", 1, 1))])
+True
+
+>>> from factsandfar.conflicts import find_conflict
+>>> find_conflict([("disjoint", ("concept", "a"), ("concept", "b"))], [("concept", "a", ("p", "1"))])
+None
+
+>>> from factsandfar.conflicts import is_conflict
+>>> facts = [("role", "r", ("p", "1"), ("p", "2")), ("role", "r", ("p", "1"), ("p", "3"))]
+>>> is_conflict([("functional", ("out", "r"))], facts, ([(facts[0], ("given",)), (facts[1], ("given",))], 0, 0, 1))
+True
+
+>>> from factsandfar.models import is_model_table
+>>> is_model_table(([], {}, [((("out", "r"),), (), (0,))]))
+True
+
+>>> from factsandfar.models import is_model
+>>> ontology = [("subclass", ("concept", "a"), ("out", "r")), ("subclass", ("in", "r"), ("concept", "a"))]
+>>> facts = [("concept", "a", ("p", "1"))]
+>>> is_model(ontology, facts, (facts, {("p", "1"): [0]}, [((("out", "r"),), ("a",), (0,))]))
+True
+
+>>> from factsandfar.models import violated_axioms
+>>> ontology = [("subclass", ("concept", "a"), ("out", "r")), ("functional", ("out", "r"))]
+>>> violated_axioms(ontology, ([("concept", "a", ("p", "1"))], {}, []))
+[0]
+"""
+
+
+def run(lines):
+    """The text of the last line's result, or of the exception that it raises."""
+    names = {}
+    for line in lines[:-1]:
+        exec(line, names)
+    try:
+        return repr(eval(lines[-1], names))
+    except Exception as error:
+        return f"raises {type(error).__name__}"
+
+
+class Examples(unittest.TestCase):
+    def test_every_example(self):
+        for example in EXAMPLES.strip().split("\n\n"):
+            *lines, result = example.split("\n")
+            with self.subTest(example=example):
+                self.assertTrue(all(line.startswith(">>> ") for line in lines))
+                self.assertEqual(run([line[4:] for line in lines]), result)
+
+    def test_their_number(self):
+        self.assertEqual(len(EXAMPLES.strip().split("\n\n")), 20)
+
+
+if __name__ == "__main__":
+    unittest.main()

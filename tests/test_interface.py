@@ -1,0 +1,64 @@
+"""The names, files and parameters of the interface."""
+
+import ast
+import importlib
+import inspect
+import pathlib
+import unittest
+
+PACKAGE = pathlib.Path(__file__).resolve().parent.parent / "factsandfar"
+FUNCTIONS = {
+    "axioms": {
+        "is_concept": "(candidate)",
+        "is_axiom": "(candidate)",
+        "check_ontology": "(candidate)",
+        "inverse": "(direction)",
+        "concepts_of": "(ontology)",
+    },
+    "subsumption": {
+        "superconcepts": "(ontology, concept)",
+        "find_chain": "(ontology, one, other, *, roles_only=False)",
+        "is_chain": "(ontology, one, other, candidate, *, roles_only=False)",
+        "chain_justifications": "(ontology, one, other)",
+    },
+    "emptiness": {
+        "find_emptiness_certificate": "(ontology, concept)",
+        "is_emptiness_certificate": "(ontology, concept, candidate)",
+    },
+    "facts": {
+        "check_facts": "(candidate)",
+    },
+    "derivations": {
+        "derived_facts": "(ontology, facts)",
+        "find_derivation": "(ontology, facts, fact)",
+        "is_derivation": "(ontology, facts, candidate)",
+    },
+    "conflicts": {
+        "find_conflict": "(ontology, facts)",
+        "is_conflict": "(ontology, facts, candidate)",
+    },
+    "models": {
+        "is_model_table": "(candidate)",
+        "is_model": "(ontology, facts, candidate)",
+        "violated_axioms": "(ontology, model)",
+    },
+}
+
+
+class Interface(unittest.TestCase):
+    def test_names_and_parameters(self):
+        for module, functions in FUNCTIONS.items():
+            loaded = importlib.import_module(f"factsandfar.{module}")
+            for name, parameters in functions.items():
+                self.assertEqual(str(inspect.signature(getattr(loaded, name))), parameters, name)
+
+    def test_defined_in_their_files(self):
+        for module, functions in FUNCTIONS.items():
+            tree = ast.parse((PACKAGE / f"{module}.py").read_text())
+            defined = [node.name for node in tree.body if isinstance(node, ast.FunctionDef)]
+            for name in functions:
+                self.assertIn(name, defined)
+
+
+if __name__ == "__main__":
+    unittest.main()
