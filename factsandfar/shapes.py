@@ -47,3 +47,19 @@ def copied(value):
     if isinstance(value, dict):
         return {key: copied(value[key]) for key in value}
     return value
+
+
+def numbered_word(number):
+    """A word for each number, a different one for each."""
+    word = LETTERS[number % len(LETTERS)]
+    while number >= len(LETTERS):
+        number = number // len(LETTERS)
+        word = word + LETTERS[number % len(LETTERS)]
+    return word
+
+
+def unused_word(used):
+    number = 0
+    while numbered_word(number) in used:
+        number += 1
+    return numbered_word(number)

@@ -255,3 +255,230 @@ def random_facts(rng, names, roles, individuals, count):
     facts = [("concept", name, individual) for name in names for individual in individuals]
     facts += [("role", role, one, other) for role in roles for one in individuals for other in individuals]
     return rng.sample(facts, min(count, len(facts)))
+
+
+def is_word(value, letters="abcdefghijklmnopqrstuvwxyz"):
+    return type(value) is str and 0 < len(value) < 9 and set(value) <= set(letters)
+
+
+def is_individual(value):
+    return type(value) is tuple and len(value) == 2 and is_word(value[0]) and is_word(value[1], "abcdefghijklmnopqrstuvwxyz0123456789")
+
+
+def is_pattern(value, is_term):
+    """A fact or a pattern, depending on its terms."""
+    if type(value) is not tuple or len(value) < 3 or type(value[0]) is not str or not is_word(value[1]):
+        return False
+    return (value[0], len(value)) in [("concept", 3), ("role", 4)] and all(is_term(term) for term in value[2:])
+
+
+def is_slow_query(value):
+    """Point 10, word by word."""
+    if type(value) is not tuple or len(value) != 2 or type(value[0]) is not tuple or type(value[1]) is not tuple:
+        return False
+    if len(value[0]) > 3 or not 1 <= len(value[1]) <= 4:
+        return False
+    if not all(is_pattern(pattern, lambda term: is_word(term) or is_individual(term)) for pattern in value[1]):
+        return False
+    return all(is_individual(term) or is_word(term) and any(term in pattern[2:] for pattern in value[1]) for term in value[0])
+
+
+def variables_of(query):
+    return sorted({term for pattern in query[1] for term in pattern[2:] if isinstance(term, str)})
+
+
+def replaced(query, names):
+    """The query with other terms in place of variables."""
+    answer_terms, patterns = query
+    return (tuple(names.get(term, term) for term in answer_terms),
+            tuple(pattern[:2] + tuple(names.get(term, term) for term in pattern[2:]) for pattern in patterns))
+
+
+def are_slowly_isomorphic(one, other):
+    """Point 10: some renaming of variables makes the queries equal, apart from order and repetition."""
+    mine, yours = variables_of(one), variables_of(other)
+    if len(mine) != len(yours):
+        return False
+    for order in itertools.permutations(yours):
+        answer_terms, patterns = replaced(one, dict(zip(mine, order)))
+        if answer_terms == other[0] and set(patterns) == set(other[1]):
+            return True
+    return False
+
+
+def form_of(query):
+    """A text that two queries share exactly if they are isomorphic."""
+    texts = []
+    for order in itertools.permutations(sorted(set(query[1]), key=repr)):
+        names = {}
+        for term in query[0] + tuple(term for pattern in order for term in pattern[2:]):
+            if isinstance(term, str):
+                names.setdefault(term, f"v{len(names)}")
+        texts.append(repr(replaced((query[0], order), names)))
+    return min(texts)
+
+
+def slow_evaluate(facts, query):
+    """Point 10: every way to assign named individuals to the variables is tried."""
+    individuals = sorted({term for fact in facts for term in fact[2:]})
+    variables = variables_of(query)
+    answers = set()
+    for chosen in itertools.product(individuals, repeat=len(variables)):
+        answer, patterns = replaced(query, dict(zip(variables, chosen)))
+        if set(patterns) <= set(facts):
+            answers.add(answer)
+    return sorted(answers)
+
+
+def rows_in(graph, pattern):
+    if pattern[0] == "concept":
+        return [(node,) for node in graph.names.get(pattern[1], ())]
+    return list(graph.pairs(pattern[1]))
+
+
+def work_for(graph, query):
+    """How much slow_answers has to try at most."""
+    work = 1
+    for pattern in query[1]:
+        work *= max(1, len(rows_in(graph, pattern)))
+    return work
+
+
+def slow_answers(graph, query):
+    """Point 11: the answers in a graph, its unnamed nodes included."""
+    states = [{}]
+    for pattern in query[1]:
+        rows = rows_in(graph, pattern)
+        states = [state for before in states for row in rows for state in fitting(before, pattern[2:], row)]
+    answers = {tuple(state.get(term, term) if isinstance(term, str) else term for term in query[0]) for state in states}
+    return sorted(answer for answer in answers if all(graph.depths.get(node, 0) == 0 for node in answer))
+
+
+def fitting(state, terms, row):
+    state = dict(state)
+    for term, node in zip(terms, row):
+        if (state.setdefault(term, node) if isinstance(term, str) else term) != node:
+            return []
+    return [state]
+
+
+def goals_in(ontology):
+    return {axiom[2] for axiom in ontology if axiom[0] == "subclass" and axiom[2][0] != "concept"}
+
+
+def roles_in(query):
+    return len([pattern for pattern in query[1] if pattern[0] == "role"])
+
+
+def slow_certain_answers(ontology, facts, query, most=40000):
+    """Point 12, for consistent facts: the answers in all that follows, as deep as the query can see; None if it is too much."""
+    graph = chased(ontology, facts, len(goals_in(ontology)) + roles_in(query))
+    return None if work_for(graph, query) > most else slow_answers(graph, query)
+
+
+def random_query(rng, names, roles, individuals, *, most=4, answers=3):
+    """A query whose terms are few variables and, now and then, named individuals."""
+    terms = ["x", "y", "z", "w"][:rng.randrange(1, 5)]
+    if rng.randrange(3) == 0:
+        terms.append(rng.choice(individuals))
+    patterns = []
+    for number in range(rng.randrange(1, most + 1)):
+        if names and rng.randrange(3) == 0:
+            patterns.append(("concept", rng.choice(names), rng.choice(terms)))
+        else:
+            patterns.append(("role", rng.choice(roles), rng.choice(terms), rng.choice(terms)))
+    occurring = sorted({term for pattern in patterns for term in pattern[2:] if isinstance(term, str)})
+    pool = occurring * 3 + [rng.choice(individuals)]
+    return tuple(rng.choice(pool) for position in range(rng.randrange(answers + 1))), tuple(patterns)
+
+
+def is_free_standing(query, term):
+    """Point 13, first sentence."""
+    places = [other for pattern in set(query[1]) for other in pattern[2:] if other == term]
+    return isinstance(term, str) and len(places) == 1 and term not in query[0]
+
+
+def slow_axiom_step(axiom, query, position):
+    """Point 13: the result of the axiom, backwards, at a pattern; None if it does not apply."""
+    old = query[1][position]
+    tag, first, second = axiom[0], axiom[1], axiom[-1]
+    new = None
+    if tag == "subclass":
+        if second[0] == "concept" and old[0] == "concept" and old[1] == second[1]:
+            subject = old[2]
+        elif second[0] == "out" and old[:2] == ("role", second[1]) and is_free_standing(query, old[3]):
+            subject = old[2]
+        elif second[0] == "in" and old[:2] == ("role", second[1]) and is_free_standing(query, old[2]):
+            subject = old[3]
+        else:
+            return None
+        new = example_fact(first, subject, "newest")
+    elif tag == "subrole" and old[:2] == ("role", second):
+        new = ("role", first, old[2], old[3])
+    elif tag == "subrole_inverse" and old[:2] == ("role", second):
+        new = ("role", first, old[3], old[2])
+    if new is None:
+        return None
+    changed = (query[0], tuple(new if pattern == old else pattern for pattern in query[1]))
+    return replaced(changed, {variable: f"v{number}" for number, variable in enumerate(variables_of(changed))})
+
+
+def slow_unify_step(query, position, other):
+    """Point 13: the two patterns made equal and the second one dropped; None if they cannot be."""
+    while query[1][position] != query[1][other]:
+        one, two = query[1][position], query[1][other]
+        if one[:2] != two[:2]:
+            return None
+        mine, yours = [(mine, yours) for mine, yours in zip(one[2:], two[2:]) if mine != yours][0]
+        if not isinstance(mine, str) and not isinstance(yours, str):
+            return None
+        query = replaced(query, {mine: yours} if isinstance(mine, str) else {yours: mine})
+    return (query[0], query[1][:other] + query[1][other + 1:])
+
+
+def slow_steps(ontology, query):
+    """All pairs (step without its source, result)."""
+    count = len(query[1])
+    found = [(("axiom", position, index), slow_axiom_step(ontology[index], query, position))
+             for position in range(count) for index in range(len(ontology))]
+    found += [(("unify", one, other), slow_unify_step(query, one, other)) for one in range(count) for other in range(one + 1, count)]
+    return [(step, result) for step, result in found if result is not None]
+
+
+def slow_closure(ontology, query, most=300):
+    """The forms of all queries that steps lead to; None if there are too many."""
+    waiting, forms = [query], {form_of(query)}
+    while waiting:
+        for step, result in slow_steps(ontology, waiting.pop()):
+            if form_of(result) not in forms:
+                forms.add(form_of(result))
+                waiting.append(result)
+        if len(forms) > most:
+            return None
+    return forms
+
+
+def is_slow_rewriting(ontology, query, pairs):
+    """Point 13, for a list of pairs of a query and a tuple: whether it is a closed rewriting."""
+    if not pairs or repr(pairs[0]) != repr((query, ("initial",))):
+        return False
+    for number, (derived, step) in enumerate(pairs):
+        if number:
+            sources = [source for source in range(number) if repr(step[1:2]) == repr((source,))]
+            results = [result for source in sources for taken, result in slow_steps(ontology, pairs[source][0])
+                       if repr((taken[0], source) + taken[1:]) == repr(step)]
+            if not any(are_slowly_isomorphic(result, derived) for result in results):
+                return False
+    forms = {form_of(derived) for derived, step in pairs}
+    return all(form_of(result) in forms for derived, step in pairs for taken, result in slow_steps(ontology, derived))
+
+
+def known_individuals(facts):
+    return sorted({term for fact in facts for term in fact[2:]})
+
+
+def aliases(value):
+    """The ids of all lists and dicts in a nested value."""
+    found = [id(value)] if isinstance(value, (list, dict)) else []
+    parts = list(value.values()) if isinstance(value, dict) else value if isinstance(value, (list, tuple)) else []
+    return found + [inner for part in parts for inner in aliases(part)]

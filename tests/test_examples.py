@@ -97,6 +97,72 @@ True
 >>> ontology = [("subclass", ("concept", "a"), ("out", "r")), ("functional", ("out", "r"))]
 >>> violated_axioms(ontology, ([("concept", "a", ("p", "1"))], {}, []))
 [0]
+
+>>> from factsandfar.canonical import canonical_model
+>>> canonical_model([("disjoint", ("concept", "a"), ("concept", "a"))], [("concept", "a", ("p", "1"))])
+raises Inconsistent
+
+>>> from factsandfar.queries import is_query
+>>> is_query((("x",), (("concept", "team", "y"),)))
+False
+
+>>> from factsandfar.queries import is_isomorphic
+>>> is_isomorphic((("x",), (("role", "r", "x", "y"),)), (("b",), (("role", "r", "b", "a"),)))
+True
+
+>>> from factsandfar.queries import evaluate
+>>> evaluate([("role", "r", ("p", "1"), ("p", "2"))], (("y",), (("role", "r", "x", "y"),)))
+[(('p', '2'),)]
+
+>>> from factsandfar.matching import holds_in_model
+>>> model = ([], {("p", "1"): [0]}, [((("out", "r"),), ("b",), ())])
+>>> holds_in_model(model, (("x",), (("role", "r", "x", "y"), ("concept", "b", "y"))), (("p", "1"),))
+True
+
+>>> from factsandfar.answering import certain_answers
+>>> ontology = [("subclass", ("concept", "manager"), ("concept", "employee")), ("subclass", ("concept", "employee"), ("out", "worksin"))]
+>>> facts = [("concept", "manager", ("emp", "ann"))]
+>>> certain_answers(ontology, facts, (("x",), (("role", "worksin", "x", "y"),)))
+[(('emp', 'ann'),)]
+
+>>> from factsandfar.answering import find_certificate
+>>> ontology = [("subclass", ("concept", "manager"), ("concept", "employee")), ("subclass", ("concept", "employee"), ("out", "worksin"))]
+>>> facts = [("concept", "manager", ("emp", "ann"))]
+>>> find_certificate(ontology, facts, (("y",), (("role", "worksin", "x", "y"),)), (("emp", "ann"),))
+None
+
+>>> from factsandfar.answering import is_certificate
+>>> facts = [("concept", "a", ("p", "1"))]
+>>> is_certificate([], facts, (("x",), (("concept", "a", "x"),)), (("p", "1"),), ([(facts[0], ("given",))], {"x": ("p", "1")}, (0,)))
+True
+
+>>> from factsandfar.answering import find_countermodel
+>>> ontology = [("subclass", ("concept", "manager"), ("concept", "employee")), ("subclass", ("concept", "employee"), ("out", "worksin"))]
+>>> facts = [("concept", "manager", ("emp", "ann"))]
+>>> find_countermodel(ontology, facts, (("x",), (("concept", "employee", "x"),)), (("emp", "ann"),))
+None
+
+>>> from factsandfar.answering import is_countermodel
+>>> facts = [("concept", "a", ("p", "1"))]
+>>> is_countermodel([], facts, ((), (("concept", "b", "x"),)), (), (facts, {}, []))
+True
+
+>>> from factsandfar.rewriting import rewrite
+>>> ontology = [("subclass", ("concept", "manager"), ("concept", "employee"))]
+>>> query = (("x",), (("concept", "employee", "x"),))
+>>> len(rewrite(ontology, query))
+2
+
+>>> from factsandfar.rewriting import is_rewriting
+>>> ontology = [("subclass", ("concept", "manager"), ("concept", "employee"))]
+>>> query = (("x",), (("concept", "employee", "x"),))
+>>> is_rewriting(ontology, query, [(query, ("initial",)), ((("x",), (("concept", "manager", "x"),)), ("axiom", 0, 0, 0))])
+True
+
+>>> from factsandfar.rewriting import evaluate_rewriting
+>>> rewriting = [((("x",), (("concept", "a", "x"),)), ("initial",))]
+>>> evaluate_rewriting(rewriting, [("concept", "a", ("p", "1"))])
+[(('p', '1'),)]
 """
 
 
@@ -120,7 +186,7 @@ class Examples(unittest.TestCase):
                 self.assertEqual(run([line[4:] for line in lines]), result)
 
     def test_their_number(self):
-        self.assertEqual(len(EXAMPLES.strip().split("\n\n")), 20)
+        self.assertEqual(len(EXAMPLES.strip().split("\n\n")), 33)
 
 
 if __name__ == "__main__":

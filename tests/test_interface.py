@@ -42,6 +42,29 @@ FUNCTIONS = {
         "is_model": "(ontology, facts, candidate)",
         "violated_axioms": "(ontology, model)",
     },
+    "canonical": {
+        "canonical_model": "(ontology, facts)",
+    },
+    "queries": {
+        "is_query": "(candidate)",
+        "is_isomorphic": "(one, other)",
+        "evaluate": "(facts, query)",
+    },
+    "matching": {
+        "holds_in_model": "(model, query, answer)",
+    },
+    "answering": {
+        "certain_answers": "(ontology, facts, query)",
+        "find_certificate": "(ontology, facts, query, answer)",
+        "is_certificate": "(ontology, facts, query, answer, candidate)",
+        "find_countermodel": "(ontology, facts, query, answer)",
+        "is_countermodel": "(ontology, facts, query, answer, candidate)",
+    },
+    "rewriting": {
+        "rewrite": "(ontology, query)",
+        "is_rewriting": "(ontology, query, candidate)",
+        "evaluate_rewriting": "(rewriting, facts)",
+    },
 }
 
 
