@@ -482,3 +482,123 @@ def aliases(value):
     found = [id(value)] if isinstance(value, (list, dict)) else []
     parts = list(value.values()) if isinstance(value, dict) else value if isinstance(value, (list, tuple)) else []
     return found + [inner for part in parts for inner in aliases(part)]
+
+
+def slow_homomorphisms(one, other):
+    """Point 14: every dict from the variables of the first query to terms of the second is tried."""
+    variables = variables_of(one)
+    terms = sorted({term for pattern in other[1] for term in pattern[2:]} | set(other[0]), key=repr)
+    for chosen in itertools.product(terms, repeat=len(variables)):
+        names = dict(zip(variables, chosen))
+        answer_terms, patterns = replaced(one, names)
+        if answer_terms == other[0] and set(patterns) <= set(other[1]):
+            yield names
+
+
+def slow_minimize(queries):
+    """Point 14 and the interface, word by word."""
+    def leads(one, other):
+        return any(True for names in slow_homomorphisms(queries[one], queries[other]))
+    numbers = range(len(queries))
+    return [queries[one] for one in numbers
+            if not any(leads(other, one) and not (leads(one, other) and other > one) for other in numbers if other != one)]
+
+
+def slow_list_answers(queries, facts):
+    return {answer for query in queries for answer in slow_evaluate(facts, query)}
+
+
+def slow_body_matches(tables, body):
+    """Point 16: every choice of a row for each body item that fits, as a pair of the values and the row ids."""
+    for positions in itertools.product(*[range(len(tables[table][2])) for table, terms in body]):
+        values = {}
+        for (table, terms), position in zip(body, positions):
+            for term, value in zip(terms, tables[table][2][position]):
+                known = values.setdefault(term, value) if isinstance(term, str) else term[1]
+                if known != value:
+                    break
+            else:
+                continue
+            break
+        else:
+            yield values, tuple((table, position) for (table, terms), position in zip(body, positions))
+
+
+def slow_facts_with_provenance(mappings, tables):
+    found = []
+    for index, (body, head) in enumerate(mappings):
+        for values, ids in slow_body_matches(tables, body):
+            found.append((head[:2] + tuple((word, values[variable]) for word, variable in head[2:]), index, ids))
+    return sorted(found)
+
+
+def slow_table_answers(tables, queries):
+    """Point 17: the answers of table queries."""
+    found = set()
+    for answer_terms, body in queries:
+        for values, ids in slow_body_matches(tables, body):
+            found.add(tuple((word, values[term] if isinstance(term, str) else term[1]) for word, term in answer_terms))
+    return sorted(found)
+
+
+def slow_choice(query, chosen):
+    """Point 17: the table query for a choice of one mapping for each pattern, or None."""
+    body, stands = [], []
+    for number, (pattern, (items, head)) in enumerate(zip(query[1], chosen)):
+        own = {term: f"{term}.{number}" for table, terms in items for term in terms if isinstance(term, str)}
+        body += [(table, tuple(own.get(term, term) for term in terms)) for table, terms in items]
+        stands += [(term, word, own[variable]) for term, (word, variable) in zip(pattern[2:], head[2:])]
+    individuals = {term for terms in (query[0],) + tuple(pattern[2:] for pattern in query[1]) for term in terms if isinstance(term, tuple)}
+    stands += [(term, term[0], ("value", term[1])) for term in individuals]
+    for one, other in itertools.combinations(range(len(stands)), 2):
+        if stands[one][0] == stands[other][0]:
+            mine, yours = stands[one], stands[other]
+            if mine[1] != yours[1] or mine[2] != yours[2] and isinstance(mine[2], tuple) and isinstance(yours[2], tuple):
+                return None
+            names = {mine[2]: yours[2]} if isinstance(mine[2], str) else {yours[2]: mine[2]}
+            stands = [(term, word, names.get(kept, kept)) for term, word, kept in stands]
+            body = [(table, tuple(names.get(term, term) for term in terms)) for table, terms in body]
+    return tuple(next((word, kept) for known, word, kept in stands if known == term) for term in query[0]), tuple(body)
+
+
+def slow_choices(mappings, query):
+    fitting = [[mapping for mapping in mappings if mapping[1][:2] == pattern[:2]] for pattern in query[1]]
+    found = [slow_choice(query, chosen) for chosen in itertools.product(*fitting)]
+    return [unfolded for unfolded in found if unfolded is not None]
+
+
+def table_form(query):
+    """A text that two table queries share exactly if they are isomorphic."""
+    texts = []
+    for order in itertools.permutations(sorted(set(query[1]), key=repr)):
+        names = {}
+        for term in tuple(term for word, term in query[0]) + tuple(term for table, terms in order for term in terms):
+            if isinstance(term, str):
+                names.setdefault(term, f"v{len(names)}")
+        texts.append(repr((tuple((word, names.get(term, term)) for word, term in query[0]),
+                           tuple((table, tuple(names.get(term, term) for term in terms)) for table, terms in order))))
+    return min(texts)
+
+
+def random_tables(rng):
+    """Tables t, u and v with one, two and three columns and few values."""
+    tables = {}
+    for name, count in zip("tuv", (1, 2, 3)):
+        rows = list(itertools.product(["1", "2", "x"], repeat=count))
+        tables[name] = ("s", count, rng.sample(rows, rng.randrange(min(len(rows), 6))))
+    return tables
+
+
+def random_mapping(rng, names, roles, *, items=2):
+    """A mapping for random_tables."""
+    body = []
+    for number in range(rng.randrange(1, items + 1)):
+        table, count = rng.choice([("t", 1), ("u", 2), ("v", 3)])
+        body.append((table, tuple(rng.choice(["d", "e", "f", "d", "e", ("value", rng.choice(["1", "2", "x"]))]) for column in range(count))))
+    variables = [term for table, terms in body for term in terms if isinstance(term, str)]
+    if not variables:
+        return random_mapping(rng, names, roles, items=items)
+    templates = [(rng.choice(["p", "p", "q"]), rng.choice(variables)) for number in range(2)]
+    if rng.randrange(2):
+        return tuple(body), ("concept", rng.choice(names), templates[0])
+    return tuple(body), ("role", rng.choice(roles), *templates)

@@ -163,6 +163,67 @@ True
 >>> rewriting = [((("x",), (("concept", "a", "x"),)), ("initial",))]
 >>> evaluate_rewriting(rewriting, [("concept", "a", ("p", "1"))])
 [(('p', '1'),)]
+
+>>> from factsandfar.containment import find_homomorphism
+>>> find_homomorphism((("x",), (("concept", "a", "x"),)), (("y",), (("concept", "a", "y"), ("concept", "b", "y"))))
+{'x': 'y'}
+
+>>> from factsandfar.containment import is_homomorphism
+>>> is_homomorphism(((), (("concept", "a", "x"),)), ((), (("concept", "a", ("p", "1")),)), {"x": ("p", "1")})
+True
+
+>>> from factsandfar.containment import minimize
+>>> minimize([((), (("concept", "a", "x"), ("concept", "b", "x"))), ((), (("concept", "a", "y"),))])
+[((), (('concept', 'a', 'y'),))]
+
+>>> from factsandfar.containment import find_separation
+>>> find_separation([((), (("concept", "a", "x"),))], [((), (("concept", "a", "y"), ("concept", "a", "z")))])
+None
+
+>>> from factsandfar.containment import is_separation
+>>> is_separation([], [((), (("concept", "a", "x"),))], (1, [("concept", "a", ("p", "1"))], ()))
+True
+
+>>> from factsandfar.tables import check_tables
+>>> check_tables({"staff": ("hr", 4, [])})
+raises InvalidTables
+
+>>> from factsandfar.tables import check_constraints
+>>> tables = {"staff": ("hr", 2, [("ann", "sales")])}
+>>> check_constraints(tables, [("key", "staff", 2)])
+raises InvalidConstraints
+
+>>> from factsandfar.tables import violated_constraints
+>>> tables = {"staff": ("hr", 2, [("ann", "sales"), ("ann", "legal")])}
+>>> violated_constraints(tables, [("key", "staff", 1), ("key", "staff", 0)])
+[1]
+
+>>> from factsandfar.mappings import check_mappings
+>>> tables = {"staff": ("hr", 2, [("ann", "sales")])}
+>>> check_mappings(tables, [((("staff", ("e",)),), ("concept", "employee", ("emp", "e")))])
+raises InvalidMappings
+
+>>> from factsandfar.mappings import facts_with_provenance
+>>> tables = {"staff": ("hr", 2, [("ann", "sales")])}
+>>> mappings = [((("staff", ("e", "t")),), ("role", "worksin", ("emp", "e"), ("team", "t")))]
+>>> facts_with_provenance(mappings, tables)
+[(('role', 'worksin', ('emp', 'ann'), ('team', 'sales')), 0, (('staff', 0),))]
+
+>>> from factsandfar.mappings import mapped_facts
+>>> tables = {"staff": ("hr", 2, [("ann", "sales")])}
+>>> mappings = [((("staff", ("e", "t")),), ("role", "worksin", ("emp", "e"), ("team", "t")))]
+>>> mapped_facts(mappings, tables)
+[('role', 'worksin', ('emp', 'ann'), ('team', 'sales'))]
+
+>>> from factsandfar.unfolding import unfold
+>>> mappings = [((("staff", ("e", "t")),), ("role", "worksin", ("emp", "e"), ("team", "t")))]
+>>> len(unfold(mappings, [(("x",), (("role", "worksin", "x", "y"),)), (("x",), (("concept", "team", "x"),))]))
+1
+
+>>> from factsandfar.unfolding import evaluate_on_tables
+>>> tables = {"staff": ("hr", 2, [("ann", "sales")])}
+>>> evaluate_on_tables(tables, [((("emp", "e"),), (("staff", ("e", ("value", "sales"))),))])
+[(('emp', 'ann'),)]
 """
 
 
@@ -186,7 +247,7 @@ class Examples(unittest.TestCase):
                 self.assertEqual(run([line[4:] for line in lines]), result)
 
     def test_their_number(self):
-        self.assertEqual(len(EXAMPLES.strip().split("\n\n")), 33)
+        self.assertEqual(len(EXAMPLES.strip().split("\n\n")), 46)
 
 
 if __name__ == "__main__":

@@ -65,6 +65,27 @@ FUNCTIONS = {
         "is_rewriting": "(ontology, query, candidate)",
         "evaluate_rewriting": "(rewriting, facts)",
     },
+    "containment": {
+        "find_homomorphism": "(one, other)",
+        "is_homomorphism": "(one, other, candidate)",
+        "minimize": "(queries)",
+        "find_separation": "(one, other)",
+        "is_separation": "(one, other, candidate)",
+    },
+    "tables": {
+        "check_tables": "(candidate)",
+        "check_constraints": "(tables, candidate)",
+        "violated_constraints": "(tables, constraints)",
+    },
+    "mappings": {
+        "check_mappings": "(tables, candidate)",
+        "facts_with_provenance": "(mappings, tables)",
+        "mapped_facts": "(mappings, tables)",
+    },
+    "unfolding": {
+        "unfold": "(mappings, queries)",
+        "evaluate_on_tables": "(tables, queries)",
+    },
 }
 
 
