@@ -78,14 +78,14 @@ class Deriver:
 def find_certificate(ontology, facts, query, answer):
     check_answer(query, answer)
     model = canonical_model(ontology, facts)
-    match = match_of_answer(model, query, answer)
-    if match is None:
+    chosen = match_of_answer(model, query, answer)
+    if chosen is None:
         return None
     deriver = Deriver(ontology, facts, model[2])
     at = []
     for label, terms in items_of(query[1]):
-        at.append(deriver.derive_item(label, [match.get(term, (term,)) for term in terms]))
-    assignment = {variable: deriver.individual(match[variable]) for variable in match}
+        at.append(deriver.derive_item(label, [chosen.get(term, (term,)) for term in terms]))
+    assignment = {variable: deriver.individual(chosen[variable]) for variable in chosen}
     return (deriver.steps, assignment, tuple(at))
 
 

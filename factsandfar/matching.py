@@ -110,13 +110,13 @@ def find_match(source, items):
     """A node for each variable such that all items hold, or None."""
     if not has_match(source, items):
         return None
-    match = {}
+    chosen = {}
     for variable in variables_of(items):
-        known = [(label, substituted(match, terms)) for label, terms in items]
+        known = [(label, substituted(chosen, terms)) for label, terms in items]
         for part in connected_parts(known):
             if variable in variables_of(part):
-                match[variable] = part_states(source, part, [variable])[0][variable]
-    return match
+                chosen[variable] = part_states(source, part, [variable])[0][variable]
+    return chosen
 
 
 def answer_state(query, answer):
@@ -133,8 +133,8 @@ def match_of_answer(model, query, answer):
     state = answer_state(query, answer)
     if state is None:
         return None
-    match = find_match(ModelSource(model), answered_items(query, state))
-    return None if match is None else {**match, **state}
+    chosen = find_match(ModelSource(model), answered_items(query, state))
+    return None if chosen is None else {**chosen, **state}
 
 
 def check_answer(query, candidate):

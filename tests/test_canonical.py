@@ -52,6 +52,11 @@ class Canonical(unittest.TestCase):
         self.assertEqual(len(self.accepted(ontology, [("concept", "a", T), ("role", "r", U, T)])[2]), 1)
         self.assertEqual(self.accepted(ontology + [("subrole_inverse", "s", "r")], [("concept", "a", T), ("role", "s", U, T)])[2], [])
 
+    def test_one_child_serves_several_axioms(self):
+        axioms = [("subclass", A, ("out", "r")), ("subclass", A, ("out", "s")), ("subclass", B, ("in", "t")), ("subrole", "s", "r"), ("subrole_inverse", "s", "t")]
+        for ontology in (axioms, axioms[::-1]):
+            self.assertEqual([len(indexes) for indexes in self.accepted(ontology, [("concept", "a", T), ("concept", "b", T)])[1].values()], [1])
+
     def test_the_parent_is_a_neighbour(self):
         """Roles that lead back and forth: the child has what it needs in its parent."""
         ontology = [("subclass", A, ("out", "r")), ("subclass", ("in", "r"), A), ("subrole_inverse", "r", "r")]

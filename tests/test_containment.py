@@ -317,6 +317,8 @@ class Separations(unittest.TestCase):
         for which, one, other in ((0, a, []), (1, [], a)):
             self.assertIs(is_separation(one, other, (which, [("concept", "a", T)], ())), True)
             self.assertIs(is_separation(one, other, (bool(which), [("concept", "a", T)], ())), False)
+            for wrong in (2, -1, 3, 1 - which):
+                self.assertIs(is_separation(one, other, (wrong, [("concept", "a", T)], ())), False)
 
     def test_any_value(self):
         a = [((), (("concept", "a", "x"),))]

@@ -244,6 +244,8 @@ class IsRewriting(unittest.TestCase):
                       (("v", "v"), (("role", "r", "v", "v"),))]:
             self.assertIs(is_rewriting([], query, [right[0], (wrong, right[1][1])]), False, wrong)
         self.assertIs(is_rewriting([], query, right[:1]), False)
+        for step in (("unify", 0, 0, 0), ("unify", 0, 1, 1)):
+            self.assertIs(is_rewriting([], query, right + [(query, step)]), False, step)
 
     def test_equal_patterns_can_be_unified(self):
         query = (("x",), (("concept", "a", "x"), ("concept", "a", "x")))
