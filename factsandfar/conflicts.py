@@ -17,14 +17,21 @@ def conflict_of(ontology, index, one_source, other_source):
     return (steps, index, one, other)
 
 
-def membership_conflict(ontology, facts):
-    sources = derived_memberships(ontology, facts)
+def membership_clashes(axiom, pairs):
+    """The couples among the keys (individual, concept) of a dict that a disjoint axiom does not allow."""
+    if axiom[0] != "disjoint":
+        return []
+    return [((individual, concept), (individual, axiom[2])) for individual, concept in pairs
+            if concept == axiom[1] and (individual, axiom[2]) in pairs]
+
+
+def clash_conflict(ontology, sources, clashes_of):
+    """The conflict of the first two keys of a dict of sources that an axiom does not allow together, or None."""
     for index, axiom in enumerate(ontology):
-        if axiom[0] == "disjoint":
-            for individual, concept in sources:
-                partner = (individual, axiom[2])
-                if concept == axiom[1] and partner in sources:
-                    return conflict_of(ontology, index, sources[(individual, concept)], sources[partner])
+        clashes = clashes_of(axiom, sources)
+        if clashes:
+            one, other = clashes[0]
+            return conflict_of(ontology, index, sources[one], sources[other])
     return None
 
 
@@ -35,26 +42,19 @@ def excluded_fact(axiom, fact):
     return role_fact(second_direction(axiom, ("out", axiom[1])), fact[2], fact[3])
 
 
-def clashing_roles(axiom, role_facts):
-    """Two facts of a dict of distinct role facts about named individuals that violate an axiom, or None."""
-    first = {}
+def role_clashes(axiom, role_facts):
+    """The couples among the keys of a dict, role facts about named individuals, that an axiom does not allow."""
+    clashes = []
+    by_member = {}
     for fact in role_facts:
         excluded = excluded_fact(axiom, fact)
         if excluded in role_facts:
-            return fact, excluded
+            clashes.append((fact, excluded))
         individual = member_of(fact, axiom[1]) if axiom[0] == "functional" else None
-        if individual is not None and first.setdefault(individual, fact) != fact:
-            return first[individual], fact
-    return None
-
-
-def role_conflict(ontology, facts):
-    sources = derived_roles(ontology, facts)
-    for index, axiom in enumerate(ontology):
-        pair = clashing_roles(axiom, sources)
-        if pair is not None:
-            return conflict_of(ontology, index, sources[pair[0]], sources[pair[1]])
-    return None
+        if individual is not None:
+            clashes.extend([(rival, fact) for rival in by_member.get(individual, [])])
+            by_member.setdefault(individual, []).append(fact)
+    return clashes
 
 
 def unfolded(ontology, fact, certificate):
@@ -84,9 +84,9 @@ def emptiness_conflict(ontology, facts):
 
 
 def find_conflict(ontology, facts):
-    found = membership_conflict(ontology, facts)
+    found = clash_conflict(ontology, derived_memberships(ontology, facts), membership_clashes)
     if found is None:
-        found = role_conflict(ontology, facts)
+        found = clash_conflict(ontology, derived_roles(ontology, facts), role_clashes)
     if found is None:
         found = emptiness_conflict(ontology, facts)
     return found

@@ -11,16 +11,20 @@ def frozen(terms):
     return tuple([(term,) if isinstance(term, str) else term for term in terms])
 
 
-def find_homomorphism(one, other):
+def find_map(one, other):
+    """A dict from the variables of one pair (answer terms, items) that turns it into a part of the other, or None."""
     start = matched(one[0], frozen(other[0]))
     if start is None:
         return None
-    source = RowSource([(label, frozen(terms)) for label, terms in items_of(other[1])])
-    items = items_of(one[1])
-    states = joined(source, items, variables_of(items), [start])
+    source = RowSource([(label, frozen(terms)) for label, terms in other[1]])
+    states = joined(source, one[1], variables_of(one[1]), [start])
     if not states:
         return None
     return {variable: part[0] if len(part) == 1 else part for variable, part in states[0].items()}
+
+
+def find_homomorphism(one, other):
+    return find_map((one[0], items_of(one[1])), (other[0], items_of(other[1])))
 
 
 def is_homomorphism(one, other, candidate):

@@ -602,3 +602,157 @@ def random_mapping(rng, names, roles, *, items=2):
     if rng.randrange(2):
         return tuple(body), ("concept", rng.choice(names), templates[0])
     return tuple(body), ("role", rng.choice(roles), *templates)
+
+
+TABLE_COLUMNS = {"t": 1, "u": 2, "v": 3}
+
+
+def random_table_query(rng, *, items=4, answers=2):
+    """A table query for random_tables, with many or with few different terms."""
+    variables = rng.choice(["d", "de", "defghij", "defghijklmn"])
+    body = []
+    for number in range(rng.randrange(1, items + 1)):
+        table = rng.choice(["t", "u", "v"])
+        pool = list(variables) + [("value", rng.choice(["1", "2"]))]
+        body.append((table, tuple(rng.choice(pool) for column in range(TABLE_COLUMNS[table]))))
+    terms = [term for table, terms in body for term in terms] + [("value", "1")]
+    return tuple((rng.choice("pq"), rng.choice(terms)) for number in range(rng.randrange(answers + 1))), tuple(body)
+
+
+def random_constraints(rng, count):
+    """Constraints for random_tables."""
+    found = []
+    for number in range(count):
+        table, other = rng.choice("tuv"), rng.choice("tuv")
+        column, other_column = rng.randrange(TABLE_COLUMNS[table]), rng.randrange(TABLE_COLUMNS[other])
+        found.append(rng.choice([("key", table, column), ("foreign_key", table, column, other, other_column)]))
+    return found
+
+
+def table_query_replaced(query, old, new):
+    """The table query with one term in place of another."""
+    return (tuple((word, new if term == old else term) for word, term in query[0]),
+            tuple((table, tuple(new if term == old else term for term in terms)) for table, terms in query[1]))
+
+
+def slow_simplifications(constraints, query, step):
+    """Point 18, word by word, for a step with integers: [] if it is not possible, else a list with its result."""
+    tag, index, item, other = step
+    body = query[1]
+    if not 0 <= index < len(constraints) or constraints[index][0] != tag or item == other:
+        return []
+    if not (0 <= item < len(body) and 0 <= other < len(body)):
+        return []
+    table, column = constraints[index][1:3]
+    second_table, second_column = (table, column) if tag == "key" else constraints[index][3:]
+    if body[item][0] != table or body[other][0] != second_table or body[item][1][column] != body[other][1][second_column]:
+        return []
+    if tag == "foreign_key":
+        everywhere = [term for word, term in query[0]] + [term for name, terms in body for term in terms]
+        others = [term for position, term in enumerate(body[other][1]) if position != second_column]
+        if not all(isinstance(term, str) and everywhere.count(term) == 1 for term in others):
+            return []
+        return [(query[0], body[:other] + body[other + 1:])]
+    if item > other:
+        return []
+    while query[1][item] != query[1][other]:
+        one, two = [pair for pair in zip(query[1][item][1], query[1][other][1]) if pair[0] != pair[1]][0]
+        if isinstance(one, tuple) and isinstance(two, tuple):
+            return [None]
+        query = table_query_replaced(query, two, one) if isinstance(two, str) else table_query_replaced(query, one, two)
+    return [(query[0], query[1][:other] + query[1][other + 1:])]
+
+
+def ordered_form(query):
+    """A text that two table queries share exactly if they are equal up to the names of variables, in their order."""
+    if query is None:
+        return "None"
+    names = {}
+    for term in [term for word, term in query[0]] + [term for table, terms in query[1] for term in terms]:
+        if isinstance(term, str):
+            names.setdefault(term, f"v{len(names)}")
+    return repr((tuple((word, names.get(term, term)) for word, term in query[0]),
+                 tuple((table, tuple(names.get(term, term) for term in terms)) for table, terms in query[1])))
+
+
+def is_slowly_satisfied(tables, constraint):
+    """Point 15, for one constraint."""
+    own = [row[constraint[2]] for row in tables[constraint[1]][2]]
+    if constraint[0] == "key":
+        return len(own) == len(set(own))
+    return set(own) <= {row[constraint[4]] for row in tables[constraint[3]][2]}
+
+
+def slow_covers(one, other):
+    """Point 18: whether the body of one mapping maps into that of the other by a dict that turns head into head."""
+    variables = sorted({term for table, terms in one[0] for term in terms if isinstance(term, str)})
+    terms = sorted({term for table, terms in other[0] for term in terms}, key=repr)
+    for chosen in itertools.product(terms, repeat=len(variables)):
+        names = dict(zip(variables, chosen))
+        body = {(table, tuple(names.get(term, term) for term in terms)) for table, terms in one[0]}
+        head = one[1][:2] + tuple((word, names[variable]) for word, variable in one[1][2:])
+        if body <= set(other[0]) and head == other[1]:
+            return True
+    return False
+
+
+def slow_redundant_mappings(mappings):
+    pairs = []
+    for index, own in enumerate(mappings):
+        for other, rival in enumerate(mappings):
+            if index != other and slow_covers(rival, own) and not (other > index and slow_covers(own, rival)):
+                pairs.append((index, other))
+                break
+    return pairs
+
+
+def all_row_ids(tables):
+    return sorted((name, position) for name in tables for position in range(len(tables[name][2])))
+
+
+def only_rows(tables, ids):
+    """The tables with these rows only."""
+    return {name: (source, count, [row for position, row in enumerate(rows) if (name, position) in ids])
+            for name, (source, count, rows) in tables.items()}
+
+
+def slow_mapped_facts(mappings, tables):
+    return sorted({fact for fact, index, ids in slow_facts_with_provenance(mappings, tables)})
+
+
+def slow_minimal_sets(items, is_wanted):
+    """All minimal subsets of the items that are wanted, as ascending tuples, sorted; every subset is tried."""
+    found = []
+    for size in range(len(items) + 1):
+        for chosen in itertools.combinations(sorted(items), size):
+            if not any(set(known) <= set(chosen) for known in found) and is_wanted(chosen):
+                found.append(chosen)
+    return sorted(found)
+
+
+def slow_justifications(ontology, mappings, tables, query, answer):
+    """Point 19; what follows without regard to conflicts is what follows from the inclusions alone."""
+    inclusions = [axiom for axiom in ontology if axiom[0] in INCLUSIONS]
+
+    def is_answered(ids):
+        facts = slow_mapped_facts(mappings, only_rows(tables, ids))
+        return answer in slow_certain_answers(inclusions, facts, query, most=10 ** 9)
+    return slow_minimal_sets(all_row_ids(tables), is_answered)
+
+
+def slow_conflict_sets(ontology, mappings, tables):
+    """Point 19."""
+    return slow_minimal_sets(all_row_ids(tables),
+                             lambda ids: not is_consistent(ontology, slow_mapped_facts(mappings, only_rows(tables, ids)), 4))
+
+
+def slow_hitting_sets(sets):
+    """Point 20."""
+    return slow_minimal_sets({item for members in sets for item in members},
+                             lambda chosen: all(set(members) & set(chosen) for members in sets))
+
+
+def slow_base_answers(ontology, mappings, tables, query):
+    """The certain answers over tables, or None if their facts are inconsistent."""
+    facts = slow_mapped_facts(mappings, tables)
+    return slow_certain_answers(ontology, facts, query, most=10 ** 9) if is_consistent(ontology, facts) else None

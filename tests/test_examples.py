@@ -224,6 +224,140 @@ raises InvalidMappings
 >>> tables = {"staff": ("hr", 2, [("ann", "sales")])}
 >>> evaluate_on_tables(tables, [((("emp", "e"),), (("staff", ("e", ("value", "sales"))),))])
 [(('emp', 'ann'),)]
+
+>>> from factsandfar.simplification import apply_step
+>>> query = ((("emp", "e"),), (("staff", ("e", "t")), ("teams", ("t", "b"))))
+>>> apply_step([("foreign_key", "staff", 1, "teams", 0)], query, ("foreign_key", 0, 0, 1))
+((('emp', 'e'),), (('staff', ('e', 't')),))
+
+>>> from factsandfar.simplification import simplification_steps
+>>> query = ((("emp", "e"),), (("staff", ("e", "t")), ("teams", ("t", "b"))))
+>>> simplification_steps([("foreign_key", "staff", 1, "teams", 0)], query)
+[('foreign_key', 0, 0, 1)]
+
+>>> from factsandfar.simplification import redundant_mappings
+>>> mapping = ((("staff", ("e",)),), ("concept", "employee", ("emp", "e")))
+>>> redundant_mappings([mapping, mapping])
+[(1, 0)]
+
+>>> from factsandfar.justifications import answer_justifications
+>>> tables = {"staff": ("hr", 2, [("ann", "sales")])}
+>>> mappings = [((("staff", ("e", "t")),), ("role", "worksin", ("emp", "e"), ("team", "t")))]
+>>> ontology = [("subclass", ("out", "worksin"), ("concept", "employee"))]
+>>> answer_justifications(ontology, mappings, tables, (("x",), (("concept", "employee", "x"),)), (("emp", "ann"),))
+[(('staff', 0),)]
+
+>>> from factsandfar.justifications import conflict_sets
+>>> tables = {"staff": ("hr", 1, [("ann",)]), "guests": ("front", 1, [("ann",)])}
+>>> mappings = [((("staff", ("e",)),), ("concept", "employee", ("p", "e"))), ((("guests", ("g",)),), ("concept", "guest", ("p", "g")))]
+>>> ontology = [("disjoint", ("concept", "employee"), ("concept", "guest"))]
+>>> conflict_sets(ontology, mappings, tables)
+[(('guests', 0), ('staff', 0))]
+
+>>> from factsandfar.repairing import minimal_hitting_sets
+>>> minimal_hitting_sets([(0, 1), (1, 2)])
+[(0, 2), (1,)]
+
+>>> from factsandfar.repairing import repairs
+>>> tables = {"staff": ("hr", 1, [("ann",)]), "guests": ("front", 1, [("ann",)])}
+>>> mappings = [((("staff", ("e",)),), ("concept", "employee", ("p", "e"))), ((("guests", ("g",)),), ("concept", "guest", ("p", "g")))]
+>>> ontology = [("disjoint", ("concept", "employee"), ("concept", "guest"))]
+>>> repairs(ontology, mappings, tables)
+[(('guests', 0),), (('staff', 0),)]
+
+>>> from factsandfar.repairing import remove_rows
+>>> remove_rows({"t": ("s", 1, [("a",), ("b",)])}, [("t", 0)])
+{'t': ('s', 1, [('b',)])}
+
+>>> from factsandfar.repairing import consistent_answers
+>>> tables = {"staff": ("hr", 1, [("ann",)]), "guests": ("front", 1, [("ann",)])}
+>>> mappings = [((("staff", ("e",)),), ("concept", "employee", ("p", "e"))), ((("guests", ("g",)),), ("concept", "guest", ("p", "g")))]
+>>> ontology = [("disjoint", ("concept", "employee"), ("concept", "guest"))]
+>>> consistent_answers(ontology, mappings, tables, (("x",), (("concept", "employee", "x"),)))
+[]
+
+>>> from factsandfar.repairing import possible_answers
+>>> tables = {"staff": ("hr", 1, [("ann",)]), "guests": ("front", 1, [("ann",)])}
+>>> mappings = [((("staff", ("e",)),), ("concept", "employee", ("p", "e"))), ((("guests", ("g",)),), ("concept", "guest", ("p", "g")))]
+>>> ontology = [("disjoint", ("concept", "employee"), ("concept", "guest"))]
+>>> possible_answers(ontology, mappings, tables, (("x",), (("concept", "employee", "x"),)))
+[(('p', 'ann'),)]
+
+>>> from factsandfar.knowledge_base import KnowledgeBase
+>>> tables = {"staff": ("hr", 1, [("ann",)]), "guests": ("front", 1, [("ann",)])}
+>>> mappings = [((("staff", ("e",)),), ("concept", "employee", ("p", "e"))), ((("guests", ("g",)),), ("concept", "guest", ("p", "g")))]
+>>> ontology = [("disjoint", ("concept", "employee"), ("concept", "guest"))]
+>>> len(KnowledgeBase(ontology, mappings=mappings, tables=tables))
+2
+
+>>> from factsandfar.knowledge_base import KnowledgeBase
+>>> base = KnowledgeBase()
+>>> base.apply(("add_table", "staff", "hr", 1))
+1
+
+>>> from factsandfar.knowledge_base import KnowledgeBase
+>>> KnowledgeBase().undo()
+raises InvalidChange
+
+>>> from factsandfar.knowledge_base import KnowledgeBase
+>>> base = KnowledgeBase()
+>>> base.apply_all([("add_table", "staff", "hr", 1), ("add_row", "staff", ("ann",))])
+2
+
+>>> from factsandfar.knowledge_base import KnowledgeBase
+>>> tables = {"staff": ("hr", 1, [("ann",)]), "guests": ("front", 1, [("ann",)])}
+>>> mappings = [((("staff", ("e",)),), ("concept", "employee", ("p", "e"))), ((("guests", ("g",)),), ("concept", "guest", ("p", "g")))]
+>>> ontology = [("disjoint", ("concept", "employee"), ("concept", "guest"))]
+>>> base = KnowledgeBase(ontology, mappings=mappings, tables=tables)
+>>> base.facts()
+[('concept', 'employee', ('p', 'ann')), ('concept', 'guest', ('p', 'ann'))]
+
+>>> from factsandfar.knowledge_base import KnowledgeBase
+>>> base = KnowledgeBase()
+>>> other = base.clone()
+>>> other.apply(("add_table", "staff", "hr", 1))
+>>> base == other
+False
+
+>>> from factsandfar.knowledge_base import KnowledgeBase
+>>> tables = {"staff": ("hr", 1, [("ann",)]), "guests": ("front", 1, [("ann",)])}
+>>> mappings = [((("staff", ("e",)),), ("concept", "employee", ("p", "e"))), ((("guests", ("g",)),), ("concept", "guest", ("p", "g")))]
+>>> ontology = [("disjoint", ("concept", "employee"), ("concept", "guest"))]
+>>> base = KnowledgeBase(ontology, mappings=mappings, tables=tables)
+>>> query = (("x",), (("concept", "employee", "x"),))
+>>> base.answers(query, offline=("front",))
+[(('p', 'ann'),)]
+
+>>> from factsandfar.knowledge_base import KnowledgeBase
+>>> KnowledgeBase().save_query("staff", (("x",), ()))
+raises InvalidQuery
+
+>>> from factsandfar.knowledge_base import KnowledgeBase
+>>> tables = {"staff": ("hr", 1, [("ann",)]), "guests": ("front", 1, [("ann",)])}
+>>> mappings = [((("staff", ("e",)),), ("concept", "employee", ("p", "e"))), ((("guests", ("g",)),), ("concept", "guest", ("p", "g")))]
+>>> ontology = [("disjoint", ("concept", "employee"), ("concept", "guest"))]
+>>> base = KnowledgeBase(ontology, mappings=mappings, tables=tables)
+>>> query = (("x",), (("concept", "employee", "x"),))
+>>> base.save_query("all", query)
+>>> base.saved_answers("all")
+None
+
+>>> from factsandfar.knowledge_base import KnowledgeBase
+>>> tables = {"staff": ("hr", 1, [("ann",)]), "guests": ("front", 1, [("ann",)])}
+>>> mappings = [((("staff", ("e",)),), ("concept", "employee", ("p", "e"))), ((("guests", ("g",)),), ("concept", "guest", ("p", "g")))]
+>>> base = KnowledgeBase(mappings=mappings, tables=tables)
+>>> query = (("x",), (("concept", "employee", "x"),))
+>>> base.preview(("add_row", "staff", ("bob",)), query)
+([(('p', 'bob'),)], [])
+
+>>> from factsandfar.knowledge_base import KnowledgeBase
+>>> tables = {"staff": ("hr", 1, [("ann",)]), "guests": ("front", 1, [("ann",)])}
+>>> mappings = [((("staff", ("e",)),), ("concept", "employee", ("p", "e"))), ((("guests", ("g",)),), ("concept", "guest", ("p", "g")))]
+>>> ontology = [("disjoint", ("concept", "employee"), ("concept", "guest"))]
+>>> base = KnowledgeBase(mappings=mappings, tables=tables)
+>>> base.apply(("add_axiom", ontology[0]))
+>>> base.inconsistent_since()
+1
 """
 
 
@@ -247,7 +381,7 @@ class Examples(unittest.TestCase):
                 self.assertEqual(run([line[4:] for line in lines]), result)
 
     def test_their_number(self):
-        self.assertEqual(len(EXAMPLES.strip().split("\n\n")), 46)
+        self.assertEqual(len(EXAMPLES.strip().split("\n\n")), 67)
 
 
 if __name__ == "__main__":

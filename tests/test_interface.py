@@ -86,6 +86,44 @@ FUNCTIONS = {
         "unfold": "(mappings, queries)",
         "evaluate_on_tables": "(tables, queries)",
     },
+    "simplification": {
+        "apply_step": "(constraints, query, step)",
+        "simplification_steps": "(constraints, query)",
+        "redundant_mappings": "(mappings)",
+    },
+    "justifications": {
+        "answer_justifications": "(ontology, mappings, tables, query, answer)",
+        "conflict_sets": "(ontology, mappings, tables)",
+    },
+    "repairing": {
+        "minimal_hitting_sets": "(sets)",
+        "repairs": "(ontology, mappings, tables)",
+        "remove_rows": "(tables, rows)",
+        "consistent_answers": "(ontology, mappings, tables, query)",
+        "possible_answers": "(ontology, mappings, tables, query)",
+    },
+}
+METHODS = {
+    ("knowledge_base", "KnowledgeBase"): {
+        "__init__": "(self, ontology=(), *, mappings=(), tables=None)",
+        "__len__": "(self)",
+        "__eq__": "(self, other)",
+        "apply": "(self, change)",
+        "undo": "(self)",
+        "apply_all": "(self, changes)",
+        "log": "(self)",
+        "ontology": "(self)",
+        "mappings": "(self)",
+        "facts": "(self)",
+        "tables": "(self)",
+        "version": "(self)",
+        "clone": "(self)",
+        "answers": "(self, query, *, offline=())",
+        "save_query": "(self, name, query)",
+        "saved_answers": "(self, name)",
+        "preview": "(self, change, query)",
+        "inconsistent_since": "(self)",
+    },
 }
 
 
@@ -102,6 +140,19 @@ class Interface(unittest.TestCase):
             defined = [node.name for node in tree.body if isinstance(node, ast.FunctionDef)]
             for name in functions:
                 self.assertIn(name, defined)
+
+    def test_methods(self):
+        for (module, name), methods in METHODS.items():
+            loaded = getattr(importlib.import_module(f"factsandfar.{module}"), name)
+            for method, parameters in methods.items():
+                self.assertEqual(str(inspect.signature(getattr(loaded, method))), parameters, method)
+
+    def test_methods_defined_in_their_classes(self):
+        for (module, name), methods in METHODS.items():
+            tree = ast.parse((PACKAGE / f"{module}.py").read_text())
+            [found] = [node for node in tree.body if isinstance(node, ast.ClassDef) and node.name == name]
+            defined = [node.name for node in found.body if isinstance(node, ast.FunctionDef)]
+            self.assertLessEqual(set(methods), set(defined))
 
 
 if __name__ == "__main__":

@@ -20,7 +20,7 @@ BARRED_NAMES = set("register mro elements open input law version_info with_trace
 BARRED_WORDS = (r"\b(type|typing|typing_extensions|enum|Enum|IntEnum|StrEnum|Flag|IntFlag|Generic|Protocol|ABC|ABCMeta|namedtuple|"
                 r"NamedTuple|TypedDict|TYPE_CHECKING|abstractmethod)\b|dataclass|overload|contextmanager")
 BARRED_NODES = (ast.Global, ast.AsyncFunctionDef, ast.AsyncFor, ast.AsyncWith, ast.Await, ast.Div, ast.MatMult, ast.Lambda,
-                ast.GeneratorExp, ast.SetComp, ast.Match, ast.With, ast.Try, ast.NamedExpr, ast.Starred, ast.Import, ast.AnnAssign)
+                ast.GeneratorExp, ast.SetComp, ast.Match, ast.With, ast.NamedExpr, ast.Starred, ast.Import, ast.AnnAssign)
 
 
 def bound_names(tree):
@@ -105,8 +105,7 @@ class Language(unittest.TestCase):
                 self.assertTrue(docstring or isinstance(node, (ast.ImportFrom, ast.FunctionDef, ast.ClassDef, ast.Assign)), stem)
                 if isinstance(node, ast.Assign):
                     self.assertEqual([type(target) for target in node.targets], [ast.Name])
-                    inner = [type(part) for part in ast.walk(node.value)]
-                    self.assertTrue(set(inner) <= {ast.Constant, ast.Tuple, ast.Load}, node.targets[0].id)
+                    self.assertTrue(self.is_plain(node.value, bound), node.targets[0].id)
                     bound.append(node.targets[0].id)
                 elif isinstance(node, ast.ImportFrom):
                     bound += [alias.name for alias in node.names]
@@ -114,11 +113,18 @@ class Language(unittest.TestCase):
                     bound.append(node.name)
             self.assertEqual(len(set(bound)), len(bound), stem)
 
+    def is_plain(self, node, above):
+        """A constant, a tuple of such, or a dict from strings to functions defined above."""
+        if isinstance(node, ast.Dict):
+            return all(isinstance(key, ast.Constant) for key in node.keys) and all(getattr(value, "id", None) in above for value in node.values)
+        return {type(part) for part in ast.walk(node)} <= {ast.Constant, ast.Tuple, ast.Load}
+
     def test_names(self):
         """L8, L12, L15, L17"""
         for stem, tree in self.trees.items():
             for name, node in bound_names(tree):
-                if isinstance(node, ast.FunctionDef) and name == "__init__":
+                if isinstance(node, ast.FunctionDef) and name in ("__init__", "__eq__", "__len__"):
+                    self.assertNotIn(node, tree.body)
                     continue
                 self.assertFalse(name.startswith("_"), name)
                 self.assertFalse(hasattr(builtins, name), name)
@@ -171,6 +177,25 @@ class Language(unittest.TestCase):
             if isinstance(node, ast.Raise):
                 self.assertIsInstance(node.exc, ast.Call, place)
                 self.assertIn(node.exc.func.id, classes, place)
+
+    def test_caught(self):
+        """L19: only own errors are caught, by their names, and nothing is done with them."""
+        errors = {node.name for node in self.trees["errors"].body if isinstance(node, ast.ClassDef)}
+        for place, node in self.nodes():
+            if isinstance(node, ast.Try):
+                self.assertEqual((node.orelse, node.finalbody), ([], []), place)
+                for handler in node.handlers:
+                    named = handler.type.elts if isinstance(handler.type, ast.Tuple) else [handler.type]
+                    self.assertLessEqual({name.id for name in named}, errors, place)
+                    self.assertIsNone(handler.name, place)
+
+    def test_double_underscore_methods(self):
+        """L28"""
+        for place, node in self.nodes():
+            if isinstance(node, ast.FunctionDef) and node.name in ("__eq__", "__len__"):
+                self.assertEqual([type(inner) for inner in node.body], [ast.Return], place)
+                if node.name == "__len__":
+                    self.assertEqual(getattr(node.body[0].value.func, "id", None), "len", place)
 
     def test_iterated_at_once(self):
         """L23: the result of these calls is not stored."""
