@@ -2,7 +2,7 @@
 
 import unittest
 
-EXAMPLES = """
+EXAMPLES = r"""
 >>> from factsandfar.axioms import is_concept
 >>> is_concept(("out", "worksin"))
 True
@@ -358,6 +358,46 @@ None
 >>> base.apply(("add_axiom", ontology[0]))
 >>> base.inconsistent_since()
 1
+
+>>> from factsandfar.comparison import compare_ontologies
+>>> compare_ontologies([("subrole", "r", "s")], [("subrole", "r", "s"), ("subclass", ("out", "r"), ("out", "s"))])
+None
+
+>>> from factsandfar.comparison import is_difference
+>>> is_difference([("functional", ("out", "r"))], [], (0, [("role", "r", ("p", "1"), ("p", "2")), ("role", "r", ("p", "1"), ("p", "3"))], None))
+True
+
+>>> from factsandfar.alignment import new_consequences
+>>> new_consequences([("subclass", ("concept", "a"), ("concept", "b"))], [("subclass", ("concept", "b"), ("concept", "a"))])
+([(('concept', 'b'), ('concept', 'a'))], [], [])
+
+>>> from factsandfar.renaming import rename_ontology
+>>> rename_ontology([("subclass", ("concept", "a"), ("out", "r"))], {"a": "b"}, {"r": "s"})
+[('subclass', ('concept', 'b'), ('out', 's'))]
+
+>>> from factsandfar.renaming import rename_tables
+>>> rename_tables({"t": ("s", 1, [])}, {"t": "u"}, {"s": "z"})
+{'u': ('z', 1, [])}
+
+>>> from factsandfar.renaming import rename_mappings
+>>> rename_mappings([((("t", ("x",)),), ("concept", "a", ("p", "x")))], {"a": "b"}, {}, {"t": "u"})
+[((('u', ('x',)),), ('concept', 'b', ('p', 'x')))]
+
+>>> from factsandfar.text_format import format_query
+>>> format_query((("x",), (("role", "r", "x", ("p", "1")), ("concept", "a", "x"))))
+'ask x | role r x p.1 ; concept a x'
+
+>>> from factsandfar.text_format import parse_ontology
+>>> parse_ontology("subclass concept a out r\nfunctional out r")
+[('subclass', ('concept', 'a'), ('out', 'r')), ('functional', ('out', 'r'))]
+
+>>> from factsandfar.console import Console
+>>> console = Console()
+>>> console.run("add table staff hr 1")
+>>> console.run("add row staff ann")
+>>> console.run("add map concept employee p.e | staff e")
+>>> console.run("ask x | concept employee x")
+'p.ann'
 """
 
 
@@ -381,7 +421,7 @@ class Examples(unittest.TestCase):
                 self.assertEqual(run([line[4:] for line in lines]), result)
 
     def test_their_number(self):
-        self.assertEqual(len(EXAMPLES.strip().split("\n\n")), 67)
+        self.assertEqual(len(EXAMPLES.strip().split("\n\n")), 76)
 
 
 if __name__ == "__main__":

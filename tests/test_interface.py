@@ -102,6 +102,32 @@ FUNCTIONS = {
         "consistent_answers": "(ontology, mappings, tables, query)",
         "possible_answers": "(ontology, mappings, tables, query)",
     },
+    "comparison": {
+        "compare_ontologies": "(one, other)",
+        "is_difference": "(one, other, candidate)",
+    },
+    "alignment": {
+        "new_consequences": "(ontology, more)",
+    },
+    "renaming": {
+        "rename_ontology": "(ontology, concepts, roles)",
+        "rename_facts": "(facts, concepts, roles)",
+        "rename_query": "(query, concepts, roles)",
+        "rename_tables": "(tables, names, sources)",
+        "rename_mappings": "(mappings, concepts, roles, names)",
+    },
+    "text_format": {
+        "format_ontology": "(ontology)",
+        "format_facts": "(facts)",
+        "format_query": "(query)",
+        "format_tables": "(tables)",
+        "format_mappings": "(mappings)",
+        "parse_ontology": "(text)",
+        "parse_facts": "(text)",
+        "parse_query": "(text)",
+        "parse_tables": "(text)",
+        "parse_mappings": "(text)",
+    },
 }
 METHODS = {
     ("knowledge_base", "KnowledgeBase"): {
@@ -123,6 +149,10 @@ METHODS = {
         "saved_answers": "(self, name)",
         "preview": "(self, change, query)",
         "inconsistent_since": "(self)",
+    },
+    ("console", "Console"): {
+        "__init__": "(self)",
+        "run": "(self, command)",
     },
 }
 
